@@ -1,0 +1,119 @@
+package trace
+
+import (
+	"slices"
+	"strconv"
+	"strings"
+
+	"moveout/api"
+)
+
+// Print returns the text of a shot.
+func Print(s Shot) (string, api.Errno) {
+	if e := CheckShot(s); e != api.OK {
+		return "", e
+	}
+	return "shot " + s.Name + "\n" + strings.Join(each(s.Traces, printTrace), ""), api.OK
+}
+
+func printTrace(t Trace) string {
+	word := "trace"
+	if t.Hole {
+		word = "hole"
+	}
+	numbers := slices.Concat(t.Header[:], integers(t.Samples))
+	return word + " " + strings.Join(each(numbers, strconv.Itoa), " ") + "\n"
+}
+
+// kind is a kind of line: whether it opens a text, and what reads the words behind its first one into a shot, and reports whether they have the form of the kind.
+type kind struct {
+	opens bool
+	read  func(s *Shot, words []string) bool
+}
+
+func kinds() map[string]kind {
+	return map[string]kind{
+		"shot":  {opens: true, read: readName},
+		"trace": {read: readTrace},
+		"hole":  {read: readHole},
+	}
+}
+
+// Parse returns the shot of a text, and the index of the first line that is wrong.
+func Parse(s string) (Shot, int, api.Errno) {
+	if len(s) > api.MaxLog {
+		return Shot{}, 0, api.ErrLong
+	}
+	lines := splitLines(s)
+	if len(lines) == 0 {
+		return Shot{}, 0, api.ErrSyntax
+	}
+	var shot Shot
+	forms := kinds()
+	for i, line := range lines {
+		text, ended := strings.CutSuffix(line, "\n")
+		words := strings.Split(text, " ")
+		form, known := forms[words[0]]
+		if !ended || !known || form.opens != (i == 0) || !form.read(&shot, words[1:]) {
+			return Shot{}, i, api.ErrSyntax
+		}
+	}
+	if e := CheckShot(shot); e != api.OK {
+		return Shot{}, len(lines), e
+	}
+	return shot, 0, api.OK
+}
+
+// splitLines splits a string after each line feed; what follows the last one is a line if it is not empty.
+func splitLines(s string) []string {
+	lines := strings.SplitAfter(s, "\n")
+	last := len(lines) - 1
+	if lines[last] == "" {
+		return lines[:last]
+	}
+	return lines
+}
+
+func readName(s *Shot, words []string) bool {
+	if len(words) != 1 || words[0] == "" {
+		return false
+	}
+	s.Name = words[0]
+	return true
+}
+
+func readTrace(s *Shot, words []string) bool {
+	l, ok := readIntegers(words)
+	if !ok || len(l) < Headers {
+		return false
+	}
+	// A float32 may round an integer that is not that of a sample, but never into the range of samples.
+	t := Trace{Samples: each(l[Headers:], sample)}
+	copy(t.Header[:], l)
+	s.Traces = append(s.Traces, t)
+	return true
+}
+
+func readHole(s *Shot, words []string) bool {
+	l, ok := readIntegers(words)
+	if !ok || len(l) != Headers {
+		return false
+	}
+	t := Trace{Hole: true}
+	copy(t.Header[:], l)
+	s.Traces = append(s.Traces, t)
+	return true
+}
+
+func readIntegers(words []string) ([]int, bool) {
+	l := make([]int, len(words))
+	for i, word := range words {
+		n, err := strconv.Atoi(word)
+		// Printed again it is the word only if the word has no leading zeros, no +, and is not -0.
+		if err != nil || strconv.Itoa(n) != word || checkRange(n, -api.MaxNumber, api.MaxNumber) != api.OK {
+			return nil, false
+		}
+		l[i] = n
+	}
+	return l, true
+}
