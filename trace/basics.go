@@ -4,6 +4,7 @@ import (
 	"math"
 
 	"moveout/api"
+	"moveout/common"
 )
 
 // The numbers of the permutation.
@@ -44,7 +45,7 @@ func isDigit(r rune) bool {
 
 // Draw returns the permutation of n elements by a key.
 func Draw(key, n int) ([]int, api.Errno) {
-	if e := first(checkRange(key, 1, drawModulus-1), checkRange(n, 0, api.MaxList)); e != api.OK {
+	if e := common.First(common.CheckRange(key, 1, drawModulus-1), common.CheckRange(n, 0, api.MaxList)); e != api.OK {
 		return nil, e
 	}
 	l := make([]int, n)
@@ -62,7 +63,7 @@ func Draw(key, n int) ([]int, api.Errno) {
 
 // CheckRatio returns the error of a ratio, or OK.
 func CheckRatio(x api.Ratio) api.Errno {
-	if e := first(checkRange(x.Num, -api.MaxNumber, api.MaxNumber), checkRange(x.Den, 1, api.MaxNumber)); e != api.OK {
+	if e := common.First(common.CheckRange(x.Num, -api.MaxNumber, api.MaxNumber), common.CheckRange(x.Den, 1, api.MaxNumber)); e != api.OK {
 		return e
 	}
 	if lowest(x) != x {
@@ -113,7 +114,7 @@ func sample(n int) float32 {
 }
 
 func integers(l []float32) []int {
-	return each(l, integer)
+	return common.Each(l, integer)
 }
 
 // made returns the samples with some integers, or ErrLarge if one is the integer of no sample.
@@ -123,7 +124,7 @@ func made(l []int) ([]float32, api.Errno) {
 			return nil, api.ErrLarge
 		}
 	}
-	return each(l, sample), api.OK
+	return common.Each(l, sample), api.OK
 }
 
 // rounded returns a quotient, rounded: from the middle to the greater integer. The divisor is above 0.

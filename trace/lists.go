@@ -2,6 +2,7 @@ package trace
 
 import (
 	"moveout/api"
+	"moveout/common"
 )
 
 // checkList returns the first error of a list of samples, or OK.
@@ -9,7 +10,7 @@ func checkList(l []float32) api.Errno {
 	if len(l) > api.MaxSamples {
 		return api.ErrMany
 	}
-	return firstOf(l, CheckSample)
+	return common.FirstOf(l, CheckSample)
 }
 
 // checkTaps returns the first error of taps, or OK.
@@ -20,12 +21,12 @@ func checkTaps(taps []int) api.Errno {
 	case len(taps) > MaxTaps:
 		return api.ErrMany
 	}
-	return firstOf(taps, func(tap int) api.Errno { return checkRange(tap, -MaxTap, MaxTap) })
+	return common.FirstOf(taps, func(tap int) api.Errno { return common.CheckRange(tap, -MaxTap, MaxTap) })
 }
 
 // Convolve returns a list of samples convolved with taps.
 func Convolve(l []float32, taps []int) ([]float32, api.Errno) {
-	if e := first(checkList(l), checkTaps(taps)); e != api.OK {
+	if e := common.First(checkList(l), checkTaps(taps)); e != api.OK {
 		return nil, e
 	}
 	if len(l) == 0 {
@@ -50,7 +51,7 @@ func convolved(l, taps []int) []int {
 
 // Correlate returns the correlation of two lists of samples.
 func Correlate(a, b []float32) ([]int, api.Errno) {
-	if e := first(checkList(a), checkList(b)); e != api.OK {
+	if e := common.First(checkList(a), checkList(b)); e != api.OK {
 		return nil, e
 	}
 	if len(a) == 0 || len(b) == 0 {

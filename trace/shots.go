@@ -5,6 +5,7 @@ import (
 	"slices"
 
 	"moveout/api"
+	"moveout/common"
 )
 
 // tick is the index of the tick in a header.
@@ -25,7 +26,7 @@ var headerRanges = [Headers]api.Interval{
 // CheckTrace returns the first error of a trace, or OK.
 func CheckTrace(t Trace) api.Errno {
 	for i := range Headers {
-		if e := checkRange(t.Header[i], headerRanges[i].Low, headerRanges[i].High); e != api.OK {
+		if e := common.CheckRange(t.Header[i], headerRanges[i].Low, headerRanges[i].High); e != api.OK {
 			return e
 		}
 	}
@@ -45,7 +46,7 @@ func CheckShot(s Shot) api.Errno {
 	case len(s.Traces) > api.MaxTraces:
 		return api.ErrMany
 	}
-	if e := firstOf(s.Traces, CheckTrace); e != api.OK {
+	if e := common.FirstOf(s.Traces, CheckTrace); e != api.OK {
 		return e
 	}
 	w := width(s)
@@ -148,7 +149,7 @@ func merged(a, b Shot, f func(x, y []int) []int) (Shot, api.Errno) {
 
 // Cut returns the part of a shot in a span.
 func Cut(s Shot, x api.Span) (Shot, api.Errno) {
-	if e := first(CheckShot(s), checkSpan(x, width(s))); e != api.OK {
+	if e := common.First(CheckShot(s), checkSpan(x, width(s))); e != api.OK {
 		return Shot{}, e
 	}
 	for _, t := range s.Traces {
@@ -173,7 +174,7 @@ func checkSpan(x api.Span, width int) api.Errno {
 
 // Join returns two shots joined.
 func Join(a, b Shot) (Shot, api.Errno) {
-	if e := first(CheckShot(a), CheckShot(b), checkFollows(a, b)); e != api.OK {
+	if e := common.First(CheckShot(a), CheckShot(b), checkFollows(a, b)); e != api.OK {
 		return Shot{}, e
 	}
 	return merged(a, b, func(x, y []int) []int { return slices.Concat(x, y) })

@@ -2,11 +2,12 @@ package trace
 
 import (
 	"moveout/api"
+	"moveout/common"
 )
 
 // Sum returns the sum of two shots.
 func Sum(a, b Shot) (Shot, api.Errno) {
-	if e := first(CheckShot(a), CheckShot(b), checkAlike(a, b)); e != api.OK {
+	if e := common.First(CheckShot(a), CheckShot(b), checkAlike(a, b)); e != api.OK {
 		return Shot{}, e
 	}
 	return merged(a, b, func(x, y []int) []int {
@@ -36,17 +37,17 @@ func checkAlike(a, b Shot) api.Errno {
 
 // Scaled returns a shot scaled by a quotient.
 func Scaled(s Shot, num, den int) (Shot, api.Errno) {
-	if e := first(CheckShot(s), checkRange(num, -MaxFactor, MaxFactor), checkRange(den, 1, MaxFactor)); e != api.OK {
+	if e := common.First(CheckShot(s), common.CheckRange(num, -MaxFactor, MaxFactor), common.CheckRange(den, 1, MaxFactor)); e != api.OK {
 		return Shot{}, e
 	}
 	return changed(s, func(_ int, l []int) []int {
-		return each(l, func(x int) int { return rounded(num*x, den) })
+		return common.Each(l, func(x int) int { return rounded(num*x, den) })
 	})
 }
 
 // Delayed returns a shot delayed by some samples.
 func Delayed(s Shot, n int) (Shot, api.Errno) {
-	if e := first(CheckShot(s), checkRange(n, -api.MaxSamples, api.MaxSamples)); e != api.OK {
+	if e := common.First(CheckShot(s), common.CheckRange(n, -api.MaxSamples, api.MaxSamples)); e != api.OK {
 		return Shot{}, e
 	}
 	return changed(s, func(_ int, l []int) []int {
@@ -76,5 +77,5 @@ func Stack(s Shot) ([]float32, api.Errno) {
 	if count == 0 {
 		return nil, api.ErrNone
 	}
-	return made(each(sums, func(x int) int { return rounded(x, count) }))
+	return made(common.Each(sums, func(x int) int { return rounded(x, count) }))
 }

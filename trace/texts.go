@@ -6,14 +6,18 @@ import (
 	"strings"
 
 	"moveout/api"
+	"moveout/common"
 )
+
+// maxDigits is how many digits an integer of a text has at most.
+const maxDigits = 9
 
 // Print returns the text of a shot.
 func Print(s Shot) (string, api.Errno) {
 	if e := CheckShot(s); e != api.OK {
 		return "", e
 	}
-	return "shot " + s.Name + "\n" + strings.Join(each(s.Traces, printTrace), ""), api.OK
+	return "shot " + s.Name + "\n" + strings.Join(common.Each(s.Traces, printTrace), ""), api.OK
 }
 
 func printTrace(t Trace) string {
@@ -22,7 +26,7 @@ func printTrace(t Trace) string {
 		word = "hole"
 	}
 	numbers := slices.Concat(t.Header[:], integers(t.Samples))
-	return word + " " + strings.Join(each(numbers, strconv.Itoa), " ") + "\n"
+	return word + " " + strings.Join(common.Each(numbers, strconv.Itoa), " ") + "\n"
 }
 
 // kind is a kind of line: whether it opens a text, and what reads the words behind its first one into a shot, and reports whether they have the form of the kind.
@@ -44,7 +48,7 @@ func Parse(s string) (Shot, int, api.Errno) {
 	if len(s) > api.MaxLog {
 		return Shot{}, 0, api.ErrLong
 	}
-	lines := splitLines(s)
+	lines := common.Lines(s)
 	if len(lines) == 0 {
 		return Shot{}, 0, api.ErrSyntax
 	}
@@ -64,16 +68,6 @@ func Parse(s string) (Shot, int, api.Errno) {
 	return shot, 0, api.OK
 }
 
-// splitLines splits a string after each line feed; what follows the last one is a line if it is not empty.
-func splitLines(s string) []string {
-	lines := strings.SplitAfter(s, "\n")
-	last := len(lines) - 1
-	if lines[last] == "" {
-		return lines[:last]
-	}
-	return lines
-}
-
 func readName(s *Shot, words []string) bool {
 	if len(words) != 1 || words[0] == "" {
 		return false
@@ -88,7 +82,7 @@ func readTrace(s *Shot, words []string) bool {
 		return false
 	}
 	// A float32 may round an integer that is not that of a sample, but never into the range of samples.
-	t := Trace{Samples: each(l[Headers:], sample)}
+	t := Trace{Samples: common.Each(l[Headers:], sample)}
 	copy(t.Header[:], l)
 	s.Traces = append(s.Traces, t)
 	return true
@@ -108,9 +102,8 @@ func readHole(s *Shot, words []string) bool {
 func readIntegers(words []string) ([]int, bool) {
 	l := make([]int, len(words))
 	for i, word := range words {
-		n, err := strconv.Atoi(word)
-		// Printed again it is the word only if the word has no leading zeros, no +, and is not -0.
-		if err != nil || strconv.Itoa(n) != word || checkRange(n, -api.MaxNumber, api.MaxNumber) != api.OK {
+		n, ok := common.Integer(word, maxDigits)
+		if !ok {
 			return nil, false
 		}
 		l[i] = n

@@ -2,6 +2,7 @@ package trace
 
 import (
 	"moveout/api"
+	"moveout/common"
 )
 
 // maxPanel is the greatest absolute integer of a part of a panel.
@@ -31,7 +32,7 @@ func turned(l [4]api.Gauss, base int) [4]api.Gauss {
 
 // Transform returns the transform of four samples.
 func Transform(l [4]float32) ([4]complex64, api.Errno) {
-	if e := firstOf(l[:], CheckSample); e != api.OK {
+	if e := common.FirstOf(l[:], CheckSample); e != api.OK {
 		return [4]complex64{}, e
 	}
 	var numbers [4]api.Gauss
@@ -58,7 +59,7 @@ func checkElement(x complex64) api.Errno {
 
 // Back returns the samples of a transform.
 func Back(p [4]complex64) ([4]float32, api.Errno) {
-	if e := firstOf(p[:], checkElement); e != api.OK {
+	if e := common.FirstOf(p[:], checkElement); e != api.OK {
 		return [4]float32{}, e
 	}
 	var numbers [4]api.Gauss
