@@ -34,21 +34,6 @@ func printNumbers(l [4]int) string {
 	return strings.Join(common.Each(l[:], strconv.Itoa), " ") + "\n"
 }
 
-// words are the words of a line that have not been taken yet.
-type words struct {
-	left []string
-}
-
-// next takes the next word; it is empty if there is none.
-func (w *words) next() string {
-	if len(w.left) == 0 {
-		return ""
-	}
-	word := w.left[0]
-	w.left = w.left[1:]
-	return word
-}
-
 // kind is a kind of line: whether it stands before all lines of other kinds, and what takes the words behind its first one for a network, and reports whether they have the form of the kind.
 type kind struct {
 	leads bool
@@ -72,10 +57,10 @@ func Parse(s string) (Network, int, api.Errno) {
 	lines := common.Lines(s)
 	for i, line := range lines {
 		text, ended := strings.CutSuffix(line, "\n")
-		w := &words{left: strings.Split(text, " ")}
-		form, known := forms[w.next()]
+		w := common.WordsOf(text)
+		form, known := forms[w.Next()]
 		late := form.leads && len(n.Ranges) > 0
-		if !ended || !known || late || !form.read(&n, w.next) || len(w.left) > 0 {
+		if !ended || !known || late || !form.read(&n, w.Next) || !w.Done() {
 			return Network{}, i, api.ErrSyntax
 		}
 	}
@@ -102,7 +87,7 @@ func readRange(n *Network, next func() string) bool {
 func readNumbers(next func() string) ([4]int, bool) {
 	var l [4]int
 	for i := range l {
-		n, ok := common.Integer(next(), maxDigits)
+		n, ok := common.Number(next(), maxDigits)
 		if !ok {
 			return [4]int{}, false
 		}

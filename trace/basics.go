@@ -13,11 +13,8 @@ const (
 	drawModulus = 2147483647
 )
 
-// A sample is counted in grains of 1/16: its integer is their number.
-const (
-	grains     = 16
-	maxInteger = grains * api.MaxValue
-)
+// maxInteger is the greatest integer of a sample.
+const maxInteger = common.Grains * api.MaxValue
 
 // IsName reports whether a string is a name.
 func IsName(s string) bool {
@@ -66,19 +63,10 @@ func CheckRatio(x api.Ratio) api.Errno {
 	if e := common.First(common.CheckRange(x.Num, -api.MaxNumber, api.MaxNumber), common.CheckRange(x.Den, 1, api.MaxNumber)); e != api.OK {
 		return e
 	}
-	if lowest(x) != x {
+	if common.Lowest(x) != x {
 		return api.ErrForm
 	}
 	return api.OK
-}
-
-// lowest returns a ratio in lowest terms; its denominator is above 0.
-func lowest(x api.Ratio) api.Ratio {
-	a, b := max(x.Num, -x.Num), x.Den
-	for a != 0 {
-		a, b = b%a, a
-	}
-	return api.Ratio{Num: x.Num / b, Den: x.Den / b}
 }
 
 // CheckSample returns the error of a sample, or OK.
@@ -99,22 +87,12 @@ func isFinite(x float32) bool {
 // isGrained reports whether a finite number is as many whole grains as most, at most.
 func isGrained(x float32, most float64) bool {
 	// 16 times a float32 may be too large for a float32, but never for a float64.
-	n := grains * float64(x)
+	n := common.Grains * float64(x)
 	return n == math.Trunc(n) && math.Abs(n) <= most
 }
 
-// integer returns the integer of a number of whole grains.
-func integer(x float32) int {
-	return int(grains * x)
-}
-
-// sample returns the number with an integer: 0, never -0.
-func sample(n int) float32 {
-	return float32(n) / grains
-}
-
 func integers(l []float32) []int {
-	return common.Each(l, integer)
+	return common.Each(l, common.Integer)
 }
 
 // made returns the samples with some integers, or ErrLarge if one is the integer of no sample.
@@ -124,7 +102,7 @@ func made(l []int) ([]float32, api.Errno) {
 			return nil, api.ErrLarge
 		}
 	}
-	return common.Each(l, sample), api.OK
+	return common.Each(l, common.Sample), api.OK
 }
 
 // rounded returns a quotient, rounded: from the middle to the greater integer. The divisor is above 0.

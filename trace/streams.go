@@ -4,6 +4,7 @@ import (
 	"math"
 
 	"moveout/api"
+	"moveout/common"
 )
 
 // The parts of a stream.
@@ -63,7 +64,7 @@ func frame(t Trace, width int) []byte {
 	copy(samples, t.Samples)
 	for _, x := range samples {
 		// By way of the integer -0 becomes 0.
-		out = appendNumber(out, math.Float32bits(sample(integer(x))))
+		out = appendNumber(out, math.Float32bits(common.Sample(common.Integer(x))))
 	}
 	sum := checksum(out)
 	return appendNumber(out, sum)

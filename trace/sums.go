@@ -71,7 +71,7 @@ func Stack(s Shot) ([]float32, api.Errno) {
 	for _, t := range whole(s) {
 		count++
 		for i, x := range t.Samples {
-			sums[i] += integer(x)
+			sums[i] += common.Integer(x)
 		}
 	}
 	if count == 0 {

@@ -82,7 +82,7 @@ func readTrace(s *Shot, words []string) bool {
 		return false
 	}
 	// A float32 may round an integer that is not that of a sample, but never into the range of samples.
-	t := Trace{Samples: common.Each(l[Headers:], sample)}
+	t := Trace{Samples: common.Each(l[Headers:], common.Sample)}
 	copy(t.Header[:], l)
 	s.Traces = append(s.Traces, t)
 	return true
@@ -102,7 +102,7 @@ func readHole(s *Shot, words []string) bool {
 func readIntegers(words []string) ([]int, bool) {
 	l := make([]int, len(words))
 	for i, word := range words {
-		n, ok := common.Integer(word, maxDigits)
+		n, ok := common.Number(word, maxDigits)
 		if !ok {
 			return nil, false
 		}

@@ -37,11 +37,11 @@ func Transform(l [4]float32) ([4]complex64, api.Errno) {
 	}
 	var numbers [4]api.Gauss
 	for n, x := range l {
-		numbers[n].Re = integer(x)
+		numbers[n].Re = common.Integer(x)
 	}
 	var p [4]complex64
 	for k, x := range turned(numbers, minusI) {
-		p[k] = complex(sample(x.Re), sample(x.Im))
+		p[k] = complex(common.Sample(x.Re), common.Sample(x.Im))
 	}
 	return p, api.OK
 }
@@ -64,7 +64,7 @@ func Back(p [4]complex64) ([4]float32, api.Errno) {
 	}
 	var numbers [4]api.Gauss
 	for k, x := range p {
-		numbers[k] = api.Gauss{Re: integer(real(x)), Im: integer(imag(x))}
+		numbers[k] = api.Gauss{Re: common.Integer(real(x)), Im: common.Integer(imag(x))}
 	}
 	var l [4]float32
 	for n, x := range turned(numbers, plusI) {
@@ -72,7 +72,7 @@ func Back(p [4]complex64) ([4]float32, api.Errno) {
 		if x.Im != 0 || x.Re%4 != 0 || max(x.Re, -x.Re) > maxPanel {
 			return [4]float32{}, api.ErrForm
 		}
-		l[n] = sample(x.Re / 4)
+		l[n] = common.Sample(x.Re / 4)
 	}
 	return l, api.OK
 }
