@@ -1,12 +1,7 @@
-// Package common has what several layers need: first errors, lists made of lists, ratios in lowest terms, samples and their integers, and lines and words of texts.
+// Package common has what several layers need: first errors, lists made of lists, ratios in lowest terms, samples and their integers, squared distances, and texts that are read line by line.
 package common
 
-import (
-	"strconv"
-	"strings"
-
-	"moveout/api"
-)
+import "moveout/api"
 
 // First returns the first of some errors that is one, or OK.
 func First(list ...api.Errno) api.Errno {
@@ -45,6 +40,59 @@ func CheckRange(x, low, high int) api.Errno {
 	return api.OK
 }
 
+// CheckIndex returns ErrUnknown if a number is not the index of one of so many elements, or OK.
+func CheckIndex(i, elements int) api.Errno {
+	if i < 0 || i >= elements {
+		return api.ErrUnknown
+	}
+	return api.OK
+}
+
+// CheckIndices returns the first error of indices of so many elements, each above the one before it, or OK.
+func CheckIndices(l []int, elements int) api.Errno {
+	return CheckAscending(l, func(i int) api.Errno { return CheckIndex(i, elements) })
+}
+
+// CheckAscending returns, for the first number with an error, the one that a function gives it, or ErrOrder if it is not above the number before it; or OK.
+func CheckAscending(l []int, check func(int) api.Errno) api.Errno {
+	for i, x := range l {
+		if e := check(x); e != api.OK {
+			return e
+		}
+		if i > 0 && x <= l[i-1] {
+			return api.ErrOrder
+		}
+	}
+	return api.OK
+}
+
+// Subset returns the elements whose bits are set, in their order: the last element has the lowest bit.
+func Subset[T any](l []T, set int) []T {
+	var out []T
+	for i, x := range l {
+		if set>>(len(l)-1-i)&1 == 1 {
+			out = append(out, x)
+		}
+	}
+	return out
+}
+
+// Floor returns the greatest integer that is not above a quotient; the divisor is above 0.
+func Floor(n, by int) int {
+	q := n / by
+	// Go cuts a quotient towards 0, but the floor is asked for.
+	if n%by < 0 {
+		q--
+	}
+	return q
+}
+
+// Squared returns the squared distance of two points.
+func Squared(a, b api.Point) int {
+	x, y := b.X-a.X, b.Y-a.Y
+	return x*x + y*y
+}
+
 // Lowest returns a ratio in lowest terms; its denominator is above 0.
 func Lowest(x api.Ratio) api.Ratio {
 	a, b := max(x.Num, -x.Num), x.Den
@@ -65,49 +113,4 @@ func Integer(x float32) int {
 // Sample returns the number with an integer: 0, never -0.
 func Sample(n int) float32 {
 	return float32(n) / Grains
-}
-
-// Lines splits a string after each line feed; what follows the last one is a line if it is not empty.
-func Lines(s string) []string {
-	lines := strings.SplitAfter(s, "\n")
-	last := len(lines) - 1
-	if lines[last] == "" {
-		return lines[:last]
-	}
-	return lines
-}
-
-// Words are the words of a line that have not been taken yet.
-type Words struct {
-	left []string
-}
-
-// WordsOf returns the words of a line without its line feed: what stands between two spaces, or beside one.
-func WordsOf(line string) *Words {
-	return &Words{left: strings.Split(line, " ")}
-}
-
-// Next takes the next word; it is empty if there is none.
-func (w *Words) Next() string {
-	if len(w.left) == 0 {
-		return ""
-	}
-	word := w.left[0]
-	w.left = w.left[1:]
-	return word
-}
-
-// Done reports whether all words have been taken.
-func (w *Words) Done() bool {
-	return len(w.left) == 0
-}
-
-// Number returns the integer that a word of a text is, and whether it is one: with so many digits at most (up to 18), without leading zeros, with or without - in front, but not -0.
-func Number(word string, digits int) (int, bool) {
-	n, err := strconv.Atoi(word)
-	// Printed again it is the word only if the word has no leading zeros, no +, and is not -0.
-	if err != nil || strconv.Itoa(n) != word || len(strings.TrimPrefix(word, "-")) > digits {
-		return 0, false
-	}
-	return n, true
 }

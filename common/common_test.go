@@ -56,32 +56,6 @@ func TestCheckRange(t *testing.T) {
 	}
 }
 
-func TestLines(t *testing.T) {
-	for _, x := range []struct {
-		s string
-		l []string
-	}{
-		{"", nil}, {"\n", []string{"\n"}}, {"a\nb", []string{"a\n", "b"}}, {"a\n\nb\n", []string{"a\n", "\n", "b\n"}},
-	} {
-		if l := common.Lines(x.s); !slices.Equal(l, x.l) {
-			t.Errorf("Lines of %q: got %q, want %q", x.s, l, x.l)
-		}
-	}
-}
-
-func TestNumber(t *testing.T) {
-	for word, want := range map[string]int{"0": 0, "-1": -1, "999": 999, "-999": -999} {
-		if n, ok := common.Number(word, 3); n != want || !ok {
-			t.Errorf("Number of %q: got %d, %v", word, n, ok)
-		}
-	}
-	for _, word := range []string{"", "-", "-0", "+1", "01", "-01", "1000", "-1000", "1.", "1_0", " 1", "99999999999999999999"} {
-		if n, ok := common.Number(word, 3); n != 0 || ok {
-			t.Errorf("Number of %q: got %d, %v", word, n, ok)
-		}
-	}
-}
-
 func TestLowest(t *testing.T) {
 	for x, want := range map[api.Ratio]api.Ratio{
 		{Num: 12, Den: 8}: {Num: 3, Den: 2}, {Num: -12, Den: 8}: {Num: -3, Den: 2}, {Num: 0, Den: 7}: {Num: 0, Den: 1}, {Num: 8, Den: 4}: {Num: 2, Den: 1}, {Num: 5, Den: 7}: {Num: 5, Den: 7}, {Num: 3, Den: 9}: {Num: 1, Den: 3},
@@ -106,18 +80,63 @@ func TestSamples(t *testing.T) {
 	}
 }
 
-func TestWords(t *testing.T) {
-	for line, want := range map[string][]string{"": {""}, "a": {"a"}, "a b": {"a", "b"}, " a  b ": {"", "a", "", "b", ""}, "a\tb c": {"a\tb", "c"}} {
-		w := common.WordsOf(line)
-		var l []string
-		for !w.Done() {
-			l = append(l, w.Next())
+func TestCheckIndices(t *testing.T) {
+	for _, x := range []struct {
+		l []int
+		e api.Errno
+	}{
+		{nil, api.OK}, {[]int{0}, api.OK}, {[]int{3}, api.OK}, {[]int{0, 1, 3}, api.OK},
+		{[]int{4}, api.ErrUnknown}, {[]int{-1}, api.ErrUnknown}, {[]int{math.MinInt}, api.ErrUnknown}, {[]int{0, math.MaxInt}, api.ErrUnknown},
+		{[]int{0, 0}, api.ErrOrder}, {[]int{1, 3, 2}, api.ErrOrder},
+		{[]int{1, 0, 4}, api.ErrOrder}, {[]int{1, 4, 0}, api.ErrUnknown}, {[]int{1, -1}, api.ErrUnknown},
+	} {
+		if e := common.CheckIndices(x.l, 4); e != x.e {
+			t.Errorf("CheckIndices of %v: got %d, want %d", x.l, e, x.e)
 		}
-		if !slices.Equal(l, want) {
-			t.Errorf("Words of %q: got %q, want %q", line, l, want)
+	}
+	if e := common.CheckIndex(0, 0); e != api.ErrUnknown {
+		t.Errorf("CheckIndex of no elements: got %d", e)
+	}
+}
+
+func TestCheckAscending(t *testing.T) {
+	check := func(x int) api.Errno { return common.CheckRange(x, -5, 5) }
+	for _, x := range []struct {
+		l []int
+		e api.Errno
+	}{
+		{nil, api.OK}, {[]int{-5, 0, 5}, api.OK}, {[]int{-6, 0}, api.ErrRange}, {[]int{0, 0}, api.ErrOrder}, {[]int{2, 1, 6}, api.ErrOrder}, {[]int{2, 6, 1}, api.ErrRange}, {[]int{2, -6}, api.ErrRange},
+	} {
+		if e := common.CheckAscending(x.l, check); e != x.e {
+			t.Errorf("CheckAscending of %v: got %d, want %d", x.l, e, x.e)
 		}
-		if word := w.Next(); word != "" || !w.Done() {
-			t.Errorf("a word behind all of %q: got %q", line, word)
+	}
+}
+
+func TestSubset(t *testing.T) {
+	l := []string{"a", "b", "c"}
+	for set, want := range [][]string{nil, {"c"}, {"b"}, {"b", "c"}, {"a"}, {"a", "c"}, {"a", "b"}, {"a", "b", "c"}} {
+		if got := common.Subset(l, set); !slices.Equal(got, want) {
+			t.Errorf("Subset %d: got %v, want %v", set, got, want)
 		}
+	}
+}
+
+func TestFloor(t *testing.T) {
+	for x, want := range map[[2]int]int{{7, 3}: 2, {6, 3}: 2, {0, 3}: 0, {-1, 3}: -1, {-3, 3}: -1, {-4, 3}: -2, {-7, 1}: -7} {
+		if got := common.Floor(x[0], x[1]); got != want {
+			t.Errorf("Floor of %v: got %d, want %d", x, got, want)
+		}
+	}
+}
+
+func TestSquared(t *testing.T) {
+	a, b := api.Point{X: 1, Y: -2}, api.Point{X: -2, Y: 2}
+	if x, y := common.Squared(a, b), common.Squared(b, a); x != 25 || y != 25 {
+		t.Errorf("Squared: got %d and %d", x, y)
+	}
+	far := api.Point{X: api.MaxPlace, Y: api.MaxPlace}
+	if x := common.Squared(far, api.Point{X: -far.X, Y: -far.Y}); x != 80000000000 {
+		t.Errorf("Squared of corners: got %d", x)
 	}
 }

@@ -122,22 +122,11 @@ func Largest(s String, l []Rule, width int) ([]string, api.Errno) {
 	var largest []Gun
 	// Downwards, so that of the sets of so many guns the first one comes first: that of the first guns, which have the highest bits.
 	for set := 1<<len(s.Guns) - 1; set > 0; set-- {
-		dropped := subset(s.Guns, set)
+		dropped := common.Subset(s.Guns, set)
 		refuses := func(t trial) bool { return t.refuses(dropped, width) }
 		if len(dropped) > len(largest) && !slices.ContainsFunc(all, refuses) {
 			largest = dropped
 		}
 	}
 	return names(largest), api.OK
-}
-
-// subset returns the guns whose bits are set, in their order: the last gun has the lowest bit.
-func subset(guns []Gun, set int) []Gun {
-	var l []Gun
-	for i, g := range guns {
-		if set>>(len(guns)-1-i)&1 == 1 {
-			l = append(l, g)
-		}
-	}
-	return l
 }

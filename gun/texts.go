@@ -1,7 +1,6 @@
 package gun
 
 import (
-	"strconv"
 	"strings"
 
 	"moveout/api"
@@ -21,27 +20,19 @@ func Print(s String) (string, api.Errno) {
 
 func printGun(g Gun) string {
 	l := numbersOf(g)
-	return "gun " + g.Name + " " + strings.Join(common.Each(l[:], strconv.Itoa), " ") + "\n"
+	return "gun " + g.Name + " " + common.PrintNumbers(l[:])
 }
 
 // Parse returns the string with a text, or the index of the first line that is wrong.
 func Parse(s string) (String, int, api.Errno) {
-	if len(s) > api.MaxText {
-		return String{}, 0, api.ErrLong
-	}
 	var out String
-	lines := common.Lines(s)
-	for i, line := range lines {
-		text, ended := strings.CutSuffix(line, "\n")
-		words := common.WordsOf(text)
-		g, ok := readGun(words.Next)
-		if !ended || !ok || !words.Done() {
-			return String{}, i, api.ErrSyntax
-		}
+	read := func(next func() string) bool {
+		g, ok := readGun(next)
 		out.Guns = append(out.Guns, g)
+		return ok
 	}
-	if e := CheckString(out); e != api.OK {
-		return String{}, len(lines), e
+	if at, e := common.ReadText(s, api.MaxText, read, func() api.Errno { return CheckString(out) }); e != api.OK {
+		return String{}, at, e
 	}
 	return out, 0, api.OK
 }
@@ -53,12 +44,6 @@ func readGun(next func() string) (Gun, bool) {
 	}
 	name := next()
 	var l numbers
-	for i := range l {
-		n, ok := common.Number(next(), maxDigits)
-		if !ok {
-			return Gun{}, false
-		}
-		l[i] = n
-	}
-	return l.gun(name), name != ""
+	ok := common.ReadNumbers(next, l[:], maxDigits)
+	return l.gun(name), ok && name != ""
 }

@@ -112,12 +112,6 @@ func distances(a, b api.Interval) api.Interval {
 	return api.Interval{Low: max(0, gap, back), High: max(-gap, -back)}
 }
 
-// squared returns the squared distance of two points.
-func squared(a, b api.Point) int {
-	x, y := b.X-a.X, b.Y-a.Y
-	return x*x + y*y
-}
-
 // isIn reports whether an integer is in an interval.
 func isIn(x int, i api.Interval) bool {
 	return i.Low <= x && x <= i.High

@@ -40,7 +40,7 @@ func checkBody(before []Body, b Body) api.Errno {
 
 // checkRange returns the first error of a range between some bodies, or OK.
 func checkRange(r Range, bodies int) api.Errno {
-	if e := common.First(checkIndex(r.A, bodies), checkIndex(r.B, bodies)); e != api.OK {
+	if e := common.First(common.CheckIndex(r.A, bodies), common.CheckIndex(r.B, bodies)); e != api.OK {
 		return e
 	}
 	if r.A == r.B {
@@ -49,31 +49,12 @@ func checkRange(r Range, bodies int) api.Errno {
 	return checkInterval(r.Square, MaxSquare)
 }
 
-// checkIndex returns ErrUnknown if a number is not the index of one of some elements, or OK.
-func checkIndex(i, elements int) api.Errno {
-	if i < 0 || i >= elements {
-		return api.ErrUnknown
-	}
-	return api.OK
-}
-
 // checkIndices returns the first error of a list of ranges, or OK.
 func checkIndices(l []int, ranges int) api.Errno {
 	if len(l) > MaxRanges {
 		return api.ErrMany
 	}
-	// Every index is above the one before it, and the first one above this.
-	last := -1
-	return common.FirstOf(l, func(i int) api.Errno {
-		if e := checkIndex(i, ranges); e != api.OK {
-			return e
-		}
-		if i <= last {
-			return api.ErrOrder
-		}
-		last = i
-		return api.OK
-	})
+	return common.CheckIndices(l, ranges)
 }
 
 // checkPlacing returns the first error of a placing of a network, or OK.
@@ -100,7 +81,7 @@ func Unkept(n Network, placing []api.Point) ([]int, api.Errno) {
 func unkept(n Network, placing []api.Point) []int {
 	var l []int
 	for i, r := range n.Ranges {
-		if !isIn(squared(placing[r.A], placing[r.B]), r.Square) {
+		if !isIn(common.Squared(placing[r.A], placing[r.B]), r.Square) {
 			l = append(l, i)
 		}
 	}

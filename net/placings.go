@@ -45,16 +45,7 @@ func seated(n Network, step int) []seat {
 
 // inSteps returns the multiples of a step in an interval, counted in steps; a Low above its High by 1 if there are none.
 func inSteps(i api.Interval, step int) api.Interval {
-	return api.Interval{Low: -floor(-i.Low, step), High: floor(i.High, step)}
-}
-
-// floor returns the greatest integer that is not above a quotient; the divisor is above 0.
-func floor(x, by int) int {
-	q := x / by
-	if x%by < 0 {
-		q--
-	}
-	return q
+	return api.Interval{Low: -common.Floor(-i.Low, step), High: common.Floor(i.High, step)}
 }
 
 // count returns the number of lattice placings, or MaxPlacings + 1 if there are more than MaxPlacings.
@@ -115,7 +106,7 @@ func (p place) compare(q place) int {
 
 // Places returns the places of a body by a step.
 func Places(n Network, body, step int) ([]api.Point, api.Errno) {
-	if e := common.First(CheckNetwork(n), checkIndex(body, len(n.Bodies)), checkStep(step)); e != api.OK {
+	if e := common.First(CheckNetwork(n), common.CheckIndex(body, len(n.Bodies)), checkStep(step)); e != api.OK {
 		return nil, e
 	}
 	if e := checkCount(n, step); e != api.OK {

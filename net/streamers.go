@@ -19,7 +19,7 @@ func CheckStreamer(s Streamer) api.Errno {
 		return api.ErrMany
 	}
 	return common.FirstOf(s.Fixes, func(f Fix) api.Errno {
-		return common.First(checkIndex(f.Node, s.Nodes), CheckBox(f.Box))
+		return common.First(common.CheckIndex(f.Node, s.Nodes), CheckBox(f.Box))
 	})
 }
 
@@ -53,7 +53,7 @@ func Regions(s Streamer) ([]Box, api.Errno) {
 
 // Shape returns a shape in which a node has a point.
 func Shape(s Streamer, node int, p api.Point) ([]api.Point, api.Errno) {
-	if e := common.First(CheckStreamer(s), checkIndex(node, s.Nodes)); e != api.OK {
+	if e := common.First(CheckStreamer(s), common.CheckIndex(node, s.Nodes)); e != api.OK {
 		return nil, e
 	}
 	l, e := Regions(s)

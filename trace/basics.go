@@ -107,11 +107,5 @@ func made(l []int) ([]float32, api.Errno) {
 
 // rounded returns a quotient, rounded: from the middle to the greater integer. The divisor is above 0.
 func rounded(n, by int) int {
-	above, below := 2*n+by, 2*by
-	q := above / below
-	// Go cuts a quotient towards 0, but the floor is asked for.
-	if above%below < 0 {
-		q--
-	}
-	return q
+	return common.Floor(2*n+by, 2*by)
 }

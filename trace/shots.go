@@ -111,9 +111,8 @@ func Offset(t Trace) (int, api.Errno) {
 	if e := CheckTrace(t); e != api.OK {
 		return 0, e
 	}
-	x := t.Header[2] - t.Header[0]
-	y := t.Header[3] - t.Header[1]
-	return x*x + y*y, api.OK
+	h := t.Header
+	return common.Squared(api.Point{X: h[0], Y: h[1]}, api.Point{X: h[2], Y: h[3]}), api.OK
 }
 
 // changed returns a copy of a shot in which each trace that is no hole has the integers that a function makes of its index and its integers; or ErrLarge if one is the integer of no sample.

@@ -2,7 +2,6 @@ package trace
 
 import (
 	"slices"
-	"strconv"
 	"strings"
 
 	"moveout/api"
@@ -26,7 +25,7 @@ func printTrace(t Trace) string {
 		word = "hole"
 	}
 	numbers := slices.Concat(t.Header[:], integers(t.Samples))
-	return word + " " + strings.Join(common.Each(numbers, strconv.Itoa), " ") + "\n"
+	return word + " " + common.PrintNumbers(numbers)
 }
 
 // kind is a kind of line: whether it opens a text, and what reads the words behind its first one into a shot, and reports whether they have the form of the kind.
