@@ -1,7 +1,11 @@
-// Package common has what several layers need: first errors, lists made of lists, ratios in lowest terms, samples and their integers, squared distances, and texts that are read line by line.
+// Package common has what several layers need: first errors, lists made of lists, quotients and ratios in lowest terms, samples and their integers, transforms of four, squared distances, and texts that are read line by line.
 package common
 
-import "moveout/api"
+import (
+	"cmp"
+
+	"moveout/api"
+)
 
 // First returns the first of some errors that is one, or OK.
 func First(list ...api.Errno) api.Errno {
@@ -40,6 +44,17 @@ func CheckRange(x, low, high int) api.Errno {
 	return api.OK
 }
 
+// CheckCount returns ErrEmpty if there are no elements, ErrMany if there are more than so many, or OK.
+func CheckCount(elements, most int) api.Errno {
+	switch {
+	case elements == 0:
+		return api.ErrEmpty
+	case elements > most:
+		return api.ErrMany
+	}
+	return api.OK
+}
+
 // CheckIndex returns ErrUnknown if a number is not the index of one of so many elements, or OK.
 func CheckIndex(i, elements int) api.Errno {
 	if i < 0 || i >= elements {
@@ -50,16 +65,16 @@ func CheckIndex(i, elements int) api.Errno {
 
 // CheckIndices returns the first error of indices of so many elements, each above the one before it, or OK.
 func CheckIndices(l []int, elements int) api.Errno {
-	return CheckAscending(l, func(i int) api.Errno { return CheckIndex(i, elements) })
+	return CheckAscending(l, cmp.Compare[int], func(i int) api.Errno { return CheckIndex(i, elements) })
 }
 
-// CheckAscending returns, for the first number with an error, the one that a function gives it, or ErrOrder if it is not above the number before it; or OK.
-func CheckAscending(l []int, check func(int) api.Errno) api.Errno {
+// CheckAscending returns, for the first element with an error, the one that a function gives it, or ErrOrder if it is not above the element before it; or OK. The first function compares two elements.
+func CheckAscending[T any](l []T, compare func(a, b T) int, check func(T) api.Errno) api.Errno {
 	for i, x := range l {
 		if e := check(x); e != api.OK {
 			return e
 		}
-		if i > 0 && x <= l[i-1] {
+		if i > 0 && compare(x, l[i-1]) <= 0 {
 			return api.ErrOrder
 		}
 	}
@@ -87,6 +102,11 @@ func Floor(n, by int) int {
 	return q
 }
 
+// Rounded returns a quotient, rounded: from the middle to the greater integer. The divisor is above 0.
+func Rounded(n, by int) int {
+	return Floor(2*n+by, 2*by)
+}
+
 // Squared returns the squared distance of two points.
 func Squared(a, b api.Point) int {
 	x, y := b.X-a.X, b.Y-a.Y
@@ -95,22 +115,18 @@ func Squared(a, b api.Point) int {
 
 // Lowest returns a ratio in lowest terms; its denominator is above 0.
 func Lowest(x api.Ratio) api.Ratio {
-	a, b := max(x.Num, -x.Num), x.Den
-	for a != 0 {
-		a, b = b%a, a
+	d := Divisor(x.Num, x.Den)
+	return api.Ratio{Num: x.Num / d, Den: x.Den / d}
+}
+
+// Divisor returns the greatest integer that divides all of some integers; of zeros alone it is 0.
+func Divisor(l ...int) int {
+	d := 0
+	for _, n := range l {
+		rest := max(n, -n)
+		for rest != 0 {
+			d, rest = rest, d%rest
+		}
 	}
-	return api.Ratio{Num: x.Num / b, Den: x.Den / b}
-}
-
-// Grains is the number of grains in 1: a sample is a whole number of grains of 1/16, and its integer is this number.
-const Grains = 16
-
-// Integer returns the integer of a number of whole grains.
-func Integer(x float32) int {
-	return int(Grains * x)
-}
-
-// Sample returns the number with an integer: 0, never -0.
-func Sample(n int) float32 {
-	return float32(n) / Grains
+	return d
 }

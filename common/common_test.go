@@ -1,6 +1,7 @@
 package common_test
 
 import (
+	"cmp"
 	"math"
 	"slices"
 	"strconv"
@@ -66,20 +67,6 @@ func TestLowest(t *testing.T) {
 	}
 }
 
-func TestSamples(t *testing.T) {
-	for n, x := range map[int]float32{0: 0, 1: 0.0625, -1: -0.0625, 24: 1.5, -16384: -1024, 65536: 4096} {
-		if got := common.Sample(n); got != x || math.Signbit(float64(got)) != (n < 0) {
-			t.Errorf("Sample of %d: got %v, want %v", n, got, x)
-		}
-		if got := common.Integer(x); got != n {
-			t.Errorf("Integer of %v: got %d, want %d", x, got, n)
-		}
-	}
-	if got := common.Integer(float32(math.Copysign(0, -1))); got != 0 {
-		t.Errorf("Integer of -0: got %d", got)
-	}
-}
-
 func TestCheckIndices(t *testing.T) {
 	for _, x := range []struct {
 		l []int
@@ -107,8 +94,32 @@ func TestCheckAscending(t *testing.T) {
 	}{
 		{nil, api.OK}, {[]int{-5, 0, 5}, api.OK}, {[]int{-6, 0}, api.ErrRange}, {[]int{0, 0}, api.ErrOrder}, {[]int{2, 1, 6}, api.ErrOrder}, {[]int{2, 6, 1}, api.ErrRange}, {[]int{2, -6}, api.ErrRange},
 	} {
-		if e := common.CheckAscending(x.l, check); e != x.e {
+		if e := common.CheckAscending(x.l, cmp.Compare[int], check); e != x.e {
 			t.Errorf("CheckAscending of %v: got %d, want %d", x.l, e, x.e)
+		}
+	}
+}
+
+// Elements that are no numbers ascend as the function says that compares them.
+func TestCheckAscendingElements(t *testing.T) {
+	shorter := func(a, b string) int { return cmp.Compare(len(a), len(b)) }
+	check := func(s string) api.Errno { return common.CheckRange(len(s), 1, 3) }
+	for _, x := range []struct {
+		l []string
+		e api.Errno
+	}{
+		{[]string{"b", "aa", "abc"}, api.OK}, {[]string{"a", "b"}, api.ErrOrder}, {[]string{"aa", "b"}, api.ErrOrder}, {[]string{"a", ""}, api.ErrRange}, {[]string{"aa", "b", "abcd"}, api.ErrOrder},
+	} {
+		if e := common.CheckAscending(x.l, shorter, check); e != x.e {
+			t.Errorf("CheckAscending of %v: got %d, want %d", x.l, e, x.e)
+		}
+	}
+}
+
+func TestCheckCount(t *testing.T) {
+	for n, want := range map[int]api.Errno{0: api.ErrEmpty, 1: api.OK, 4: api.OK, 5: api.ErrMany} {
+		if e := common.CheckCount(n, 4); e != want {
+			t.Errorf("CheckCount of %d: got %d, want %d", n, e, want)
 		}
 	}
 }
@@ -126,6 +137,27 @@ func TestFloor(t *testing.T) {
 	for x, want := range map[[2]int]int{{7, 3}: 2, {6, 3}: 2, {0, 3}: 0, {-1, 3}: -1, {-3, 3}: -1, {-4, 3}: -2, {-7, 1}: -7} {
 		if got := common.Floor(x[0], x[1]); got != want {
 			t.Errorf("Floor of %v: got %d, want %d", x, got, want)
+		}
+	}
+}
+
+func TestRounded(t *testing.T) {
+	for x, want := range map[[2]int]int{{0, 3}: 0, {1, 3}: 0, {2, 3}: 1, {-1, 3}: 0, {-2, 3}: -1, {1, 2}: 1, {-1, 2}: 0, {3, 2}: 2, {-3, 2}: -1, {-7, 1}: -7, {512, 1024}: 1, {511, 1024}: 0, {-512, 1024}: 0, {-513, 1024}: -1} {
+		if got := common.Rounded(x[0], x[1]); got != want {
+			t.Errorf("Rounded of %v: got %d, want %d", x, got, want)
+		}
+	}
+}
+
+func TestDivisor(t *testing.T) {
+	for _, x := range []struct {
+		l    []int
+		want int
+	}{
+		{nil, 0}, {[]int{0, 0}, 0}, {[]int{6}, 6}, {[]int{-6}, 6}, {[]int{4, 6}, 2}, {[]int{6, 4}, 2}, {[]int{0, 5}, 5}, {[]int{5, 0}, 5}, {[]int{12, -18, 8}, 2}, {[]int{12, 18, -7}, 1}, {[]int{-1 << 39, 1 << 39, 1 << 38}, 1 << 38},
+	} {
+		if got := common.Divisor(x.l...); got != x.want {
+			t.Errorf("Divisor of %v: got %d, want %d", x.l, got, x.want)
 		}
 	}
 }

@@ -64,9 +64,14 @@ func ReadNumbers(next func() string, l []int, digits int) bool {
 	return true
 }
 
+// JoinNumbers returns integers, with a blank between two of them.
+func JoinNumbers(l []int) string {
+	return strings.Join(Each(l, strconv.Itoa), " ")
+}
+
 // PrintNumbers returns the end of a line: integers, with a blank between two of them, and the line feed.
 func PrintNumbers(l []int) string {
-	return strings.Join(Each(l, strconv.Itoa), " ") + "\n"
+	return JoinNumbers(l) + "\n"
 }
 
 // ReadText has a function take the words of each line of a string of at most so many bytes, and then another one check what came of them. It returns the first error with its index: ErrLong with 0; ErrSyntax with the index of the first line that has no line feed at its end, that the first function refuses, or of which it leaves words; or that of the check with the number of lines. Without an error the index is 0.

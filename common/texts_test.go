@@ -56,6 +56,9 @@ func TestPrintNumbers(t *testing.T) {
 		if got := common.PrintNumbers(l); got != want {
 			t.Errorf("PrintNumbers of %v: got %q", l, got)
 		}
+		if got := common.JoinNumbers(l); got+"\n" != want {
+			t.Errorf("JoinNumbers of %v: got %q", l, got)
+		}
 	}
 }
 

@@ -1,6 +1,7 @@
 package cover
 
 import (
+	"cmp"
 	"slices"
 
 	"moveout/api"
@@ -33,13 +34,10 @@ func CheckGrid(g Grid) api.Errno {
 
 // checkClasses returns the first error of classes, or OK.
 func checkClasses(l []int) api.Errno {
-	switch {
-	case len(l) == 0:
-		return api.ErrEmpty
-	case len(l) > MaxClasses:
-		return api.ErrMany
+	if e := common.CheckCount(len(l), MaxClasses); e != api.OK {
+		return e
 	}
-	return common.CheckAscending(l, func(x int) api.Errno { return common.CheckRange(x, 1, MaxSquare) })
+	return common.CheckAscending(l, cmp.Compare[int], func(x int) api.Errno { return common.CheckRange(x, 1, MaxSquare) })
 }
 
 // bins returns the number of bins of a grid.

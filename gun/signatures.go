@@ -138,11 +138,8 @@ func enclosure(l []voice, width int) []api.Interval {
 
 // checkSamples returns the first error of samples that a string may explain, or OK.
 func checkSamples(l []float32) api.Errno {
-	switch {
-	case len(l) == 0:
-		return api.ErrEmpty
-	case len(l) > MaxWidth:
-		return api.ErrMany
+	if e := common.CheckCount(len(l), MaxWidth); e != api.OK {
+		return e
 	}
 	return common.FirstOf(l, trace.CheckSample)
 }

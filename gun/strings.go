@@ -33,11 +33,8 @@ func (n numbers) gun(name string) Gun {
 
 // CheckString returns the first error of a string of guns, or OK.
 func CheckString(s String) api.Errno {
-	switch {
-	case len(s.Guns) == 0:
-		return api.ErrEmpty
-	case len(s.Guns) > MaxGuns:
-		return api.ErrMany
+	if e := common.CheckCount(len(s.Guns), MaxGuns); e != api.OK {
+		return e
 	}
 	for i, g := range s.Guns {
 		if e := checkGun(s.Guns[:i], g); e != api.OK {

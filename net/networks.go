@@ -10,11 +10,8 @@ import (
 
 // CheckNetwork returns the first error of a network, or OK.
 func CheckNetwork(n Network) api.Errno {
-	switch {
-	case len(n.Bodies) == 0:
-		return api.ErrEmpty
-	case len(n.Bodies) > MaxBodies:
-		return api.ErrMany
+	if e := common.CheckCount(len(n.Bodies), MaxBodies); e != api.OK {
+		return e
 	}
 	for i := range n.Bodies {
 		if e := checkBody(n.Bodies[:i], n.Bodies[i]); e != api.OK {

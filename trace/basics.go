@@ -1,8 +1,6 @@
 package trace
 
 import (
-	"math"
-
 	"moveout/api"
 	"moveout/common"
 )
@@ -12,9 +10,6 @@ const (
 	drawFactor  = 742938285
 	drawModulus = 2147483647
 )
-
-// maxInteger is the greatest integer of a sample.
-const maxInteger = common.Grains * api.MaxValue
 
 // IsName reports whether a string is a name.
 func IsName(s string) bool {
@@ -71,41 +66,5 @@ func CheckRatio(x api.Ratio) api.Errno {
 
 // CheckSample returns the error of a sample, or OK.
 func CheckSample(x float32) api.Errno {
-	if !isFinite(x) {
-		return api.ErrForm
-	}
-	if !isGrained(x, maxInteger) {
-		return api.ErrRange
-	}
-	return api.OK
-}
-
-func isFinite(x float32) bool {
-	return !math.IsNaN(float64(x)) && !math.IsInf(float64(x), 0)
-}
-
-// isGrained reports whether a finite number is as many whole grains as most, at most.
-func isGrained(x float32, most float64) bool {
-	// 16 times a float32 may be too large for a float32, but never for a float64.
-	n := common.Grains * float64(x)
-	return n == math.Trunc(n) && math.Abs(n) <= most
-}
-
-func integers(l []float32) []int {
-	return common.Each(l, common.Integer)
-}
-
-// made returns the samples with some integers, or ErrLarge if one is the integer of no sample.
-func made(l []int) ([]float32, api.Errno) {
-	for _, n := range l {
-		if n < -maxInteger || n > maxInteger {
-			return nil, api.ErrLarge
-		}
-	}
-	return common.Each(l, common.Sample), api.OK
-}
-
-// rounded returns a quotient, rounded: from the middle to the greater integer. The divisor is above 0.
-func rounded(n, by int) int {
-	return common.Floor(2*n+by, 2*by)
+	return common.CheckGrains(x, common.MaxInteger)
 }

@@ -15,11 +15,8 @@ func checkList(l []float32) api.Errno {
 
 // checkTaps returns the first error of taps, or OK.
 func checkTaps(taps []int) api.Errno {
-	switch {
-	case len(taps) == 0:
-		return api.ErrEmpty
-	case len(taps) > MaxTaps:
-		return api.ErrMany
+	if e := common.CheckCount(len(taps), MaxTaps); e != api.OK {
+		return e
 	}
 	return common.FirstOf(taps, func(tap int) api.Errno { return common.CheckRange(tap, -MaxTap, MaxTap) })
 }
@@ -35,7 +32,7 @@ func Convolve(l []float32, taps []int) ([]float32, api.Errno) {
 	if len(l)+len(taps)-1 > api.MaxSamples {
 		return nil, api.ErrMany
 	}
-	return made(convolved(integers(l), taps))
+	return common.Samples(convolved(common.Integers(l), taps))
 }
 
 // convolved returns the convolution of two lists that are not empty.
@@ -57,7 +54,7 @@ func Correlate(a, b []float32) ([]int, api.Errno) {
 	if len(a) == 0 || len(b) == 0 {
 		return nil, api.OK
 	}
-	x, y := integers(a), integers(b)
+	x, y := common.Integers(a), common.Integers(b)
 	out := make([]int, len(x)+len(y)-1)
 	for i := range x {
 		for j := range y {
@@ -74,7 +71,7 @@ func Energy(l []float32) (int, api.Errno) {
 		return 0, e
 	}
 	sum := 0
-	for _, x := range integers(l) {
+	for _, x := range common.Integers(l) {
 		sum += x * x
 	}
 	return sum, api.OK
@@ -90,10 +87,10 @@ func Peak(l []float32) (int, api.Errno) {
 	}
 	at, most := 0, 0
 search:
-	for i, x := range integers(l) {
+	for i, x := range common.Integers(l) {
 		size := max(x, -x)
 		switch {
-		case size == maxInteger:
+		case size == common.MaxInteger:
 			// No sample behind this one is greater.
 			at = i
 			break search

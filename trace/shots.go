@@ -38,13 +38,11 @@ func CheckTrace(t Trace) api.Errno {
 
 // CheckShot returns the first error of a shot, or OK.
 func CheckShot(s Shot) api.Errno {
-	switch {
-	case !IsName(s.Name):
+	if !IsName(s.Name) {
 		return api.ErrName
-	case len(s.Traces) == 0:
-		return api.ErrEmpty
-	case len(s.Traces) > api.MaxTraces:
-		return api.ErrMany
+	}
+	if e := common.CheckCount(len(s.Traces), api.MaxTraces); e != api.OK {
+		return e
 	}
 	if e := common.FirstOf(s.Traces, CheckTrace); e != api.OK {
 		return e
@@ -124,7 +122,7 @@ func changed(s Shot, f func(i int, l []int) []int) (Shot, api.Errno) {
 		traces[i].Samples = nil
 	}
 	for i, t := range whole(s) {
-		l, e := made(f(i, integers(t.Samples)))
+		l, e := common.Samples(f(i, common.Integers(t.Samples)))
 		if e != api.OK {
 			return Shot{}, e
 		}
@@ -142,7 +140,7 @@ func merged(a, b Shot, f func(x, y []int) []int) (Shot, api.Errno) {
 		}
 	}
 	return changed(masked, func(i int, l []int) []int {
-		return f(l, integers(b.Traces[i].Samples))
+		return f(l, common.Integers(b.Traces[i].Samples))
 	})
 }
 

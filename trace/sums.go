@@ -41,7 +41,7 @@ func Scaled(s Shot, num, den int) (Shot, api.Errno) {
 		return Shot{}, e
 	}
 	return changed(s, func(_ int, l []int) []int {
-		return common.Each(l, func(x int) int { return rounded(num*x, den) })
+		return common.Each(l, func(x int) int { return common.Rounded(num*x, den) })
 	})
 }
 
@@ -50,15 +50,7 @@ func Delayed(s Shot, n int) (Shot, api.Errno) {
 	if e := common.First(CheckShot(s), common.CheckRange(n, -api.MaxSamples, api.MaxSamples)); e != api.OK {
 		return Shot{}, e
 	}
-	return changed(s, func(_ int, l []int) []int {
-		out := make([]int, len(l))
-		for i := range l {
-			if from := i - n; from >= 0 && from < len(l) {
-				out[i] = l[from]
-			}
-		}
-		return out
-	})
+	return changed(s, func(_ int, l []int) []int { return common.Delayed(l, n) })
 }
 
 // Stack returns the stack of a shot.
@@ -77,5 +69,5 @@ func Stack(s Shot) ([]float32, api.Errno) {
 	if count == 0 {
 		return nil, api.ErrNone
 	}
-	return made(common.Each(sums, func(x int) int { return rounded(x, count) }))
+	return common.Samples(common.Each(sums, func(x int) int { return common.Rounded(x, count) }))
 }

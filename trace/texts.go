@@ -24,7 +24,7 @@ func printTrace(t Trace) string {
 	if t.Hole {
 		word = "hole"
 	}
-	numbers := slices.Concat(t.Header[:], integers(t.Samples))
+	numbers := slices.Concat(t.Header[:], common.Integers(t.Samples))
 	return word + " " + common.PrintNumbers(numbers)
 }
 
