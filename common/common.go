@@ -1,4 +1,4 @@
-// Package common has what several layers need: first errors, lists made of lists, quotients and ratios in lowest terms, samples and their integers, transforms of four, squared distances, and texts that are read line by line.
+// Package common has what several layers need: first errors, lists made of lists, quotients and ratios in lowest terms, intervals, samples and their integers, transforms of four, squared distances, and texts that are read line by line.
 package common
 
 import (

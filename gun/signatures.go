@@ -150,16 +150,11 @@ func Outside(s String, direction string, l []float32) (int, bool, api.Errno) {
 		return 0, false, e
 	}
 	for i, x := range enclosure(voices(s, direction), len(l)) {
-		if !isIn(common.Integer(l[i]), x) {
+		if !common.IsIn(common.Integer(l[i]), x) {
 			return i, true, api.OK
 		}
 	}
 	return 0, false, api.OK
-}
-
-// isIn reports whether an integer is in an interval.
-func isIn(n int, x api.Interval) bool {
-	return x.Low <= n && n <= x.High
 }
 
 // Explain returns shifts that explain a signature.
@@ -198,7 +193,7 @@ func continued(courses []course, v voice, others []api.Interval) []course {
 			left := c.left
 			for at, x := range others {
 				left[at] -= b[at]
-				if !isIn(left[at], x) {
+				if !common.IsIn(left[at], x) {
 					continue search
 				}
 			}

@@ -57,10 +57,7 @@ func checkGun(before []Gun, g Gun) api.Errno {
 			return e
 		}
 	}
-	if g.Shift.Low > g.Shift.High {
-		return api.ErrOrder
-	}
-	return api.OK
+	return common.CheckOrder(g.Shift)
 }
 
 // compare compares guns by their volumes.

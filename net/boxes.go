@@ -76,20 +76,7 @@ func CheckBox(b Box) api.Errno {
 func checkEnds(b Box, most int) api.Errno {
 	all := endsOf(b)
 	e := common.FirstOf(all[:], func(x int) api.Errno { return common.CheckRange(x, -most, most) })
-	return common.First(e, checkOrder(b.X), checkOrder(b.Y))
-}
-
-// checkOrder returns ErrOrder if the Low of an interval is above its High, or OK.
-func checkOrder(i api.Interval) api.Errno {
-	if i.Low > i.High {
-		return api.ErrOrder
-	}
-	return api.OK
-}
-
-// checkInterval returns ErrRange if an end of an interval is not from 0 to most, then ErrOrder if its Low is above its High, or OK.
-func checkInterval(i api.Interval, most int) api.Errno {
-	return common.First(common.CheckRange(i.Low, 0, most), common.CheckRange(i.High, 0, most), checkOrder(i))
+	return common.First(e, common.CheckOrder(b.X), common.CheckOrder(b.Y))
 }
 
 // Squares returns the least and the greatest squared distance of two boxes.
@@ -110,9 +97,4 @@ func distances(a, b api.Interval) api.Interval {
 	// Where both intervals have an integer in common, neither is above 0; otherwise the one that is above 0 is the gap between them.
 	gap, back := b.Low-a.High, a.Low-b.High
 	return api.Interval{Low: max(0, gap, back), High: max(-gap, -back)}
-}
-
-// isIn reports whether an integer is in an interval.
-func isIn(x int, i api.Interval) bool {
-	return i.Low <= x && x <= i.High
 }

@@ -43,7 +43,7 @@ func checkRange(r Range, bodies int) api.Errno {
 	if r.A == r.B {
 		return api.ErrTwice
 	}
-	return checkInterval(r.Square, MaxSquare)
+	return common.CheckInterval(r.Square, 0, MaxSquare)
 }
 
 // checkIndices returns the first error of a list of ranges, or OK.
@@ -78,7 +78,7 @@ func Unkept(n Network, placing []api.Point) ([]int, api.Errno) {
 func unkept(n Network, placing []api.Point) []int {
 	var l []int
 	for i, r := range n.Ranges {
-		if !isIn(common.Squared(placing[r.A], placing[r.B]), r.Square) {
+		if !common.IsIn(common.Squared(placing[r.A], placing[r.B]), r.Square) {
 			l = append(l, i)
 		}
 	}

@@ -12,7 +12,7 @@ const reach = api.MaxPlace + MaxNodes*MaxStep
 
 // CheckStreamer returns the first error of a streamer, or OK.
 func CheckStreamer(s Streamer) api.Errno {
-	if e := common.First(common.CheckRange(s.Nodes, 2, MaxNodes), checkInterval(s.Along, MaxStep), common.CheckRange(s.Side, 0, MaxStep)); e != api.OK {
+	if e := common.First(common.CheckRange(s.Nodes, 2, MaxNodes), common.CheckInterval(s.Along, 0, MaxStep), common.CheckRange(s.Side, 0, MaxStep)); e != api.OK {
 		return e
 	}
 	if len(s.Fixes) > MaxFixes {
