@@ -1,4 +1,4 @@
-// Package common has what several layers need: first errors, lists made of lists, quotients and ratios in lowest terms, intervals, samples and their integers, transforms of four, squared distances, and texts that are read line by line.
+// Package common has what several layers need: first errors, lists made of lists, quotients and ratios in lowest terms, intervals, samples and their integers, transforms of four, squared distances, inner products, and texts that are read line by line.
 package common
 
 import (
@@ -111,6 +111,15 @@ func Rounded(n, by int) int {
 func Squared(a, b api.Point) int {
 	x, y := b.X-a.X, b.Y-a.Y
 	return x*x + y*y
+}
+
+// Inner returns the inner product of two lists of the same length.
+func Inner(a, b []int) int {
+	sum := 0
+	for i, x := range a {
+		sum += x * b[i]
+	}
+	return sum
 }
 
 // Lowest returns a ratio in lowest terms; its denominator is above 0.

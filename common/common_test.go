@@ -162,6 +162,19 @@ func TestDivisor(t *testing.T) {
 	}
 }
 
+func TestInner(t *testing.T) {
+	for _, x := range []struct {
+		a, b []int
+		want int
+	}{
+		{nil, nil, 0}, {[]int{7}, []int{-6}, -42}, {[]int{1, 2, 3}, []int{3, -4, 0}, -5}, {slices.Repeat([]int{1 << 24}, 4096), slices.Repeat([]int{-1 << 24}, 4096), -1 << 60},
+	} {
+		if got := common.Inner(x.a, x.b); got != x.want {
+			t.Errorf("Inner: got %d, want %d", got, x.want)
+		}
+	}
+}
+
 func TestSquared(t *testing.T) {
 	a, b := api.Point{X: 1, Y: -2}, api.Point{X: -2, Y: 2}
 	if x, y := common.Squared(a, b), common.Squared(b, a); x != 25 || y != 25 {

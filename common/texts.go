@@ -52,6 +52,21 @@ func Number(word string, digits int) (int, bool) {
 	return n, true
 }
 
+// Digits returns the integer that a word of digits alone is, and whether it is one: with so many digits at most (up to 18), without leading zeros.
+func Digits(word string, most int) (int, bool) {
+	if word == "" || len(word) > most || len(word) > 1 && word[0] == '0' {
+		return 0, false
+	}
+	n := 0
+	for _, r := range word {
+		if r < '0' || r > '9' {
+			return 0, false
+		}
+		n = 10*n + int(r-'0')
+	}
+	return n, true
+}
+
 // ReadNumbers fills a list with words that are taken, and reports whether all of them are integers of a text, as Number has them.
 func ReadNumbers(next func() string, l []int, digits int) bool {
 	for i := range l {

@@ -35,6 +35,22 @@ func TestNumber(t *testing.T) {
 	}
 }
 
+func TestDigits(t *testing.T) {
+	for word, want := range map[string]int{"0": 0, "7": 7, "10": 10, "999": 999} {
+		if n, ok := common.Digits(word, 3); n != want || !ok {
+			t.Errorf("Digits of %q: got %d, %v", word, n, ok)
+		}
+	}
+	for _, word := range []string{"", "-", "-0", "-1", "+1", "00", "01", "1000", "0001", "1.", "1_0", " 1", "1x", "/", ":", "\u0661", "\xff", "99999999999999999999"} {
+		if n, ok := common.Digits(word, 3); n != 0 || ok {
+			t.Errorf("Digits of %q: got %d, %v", word, n, ok)
+		}
+	}
+	if n, ok := common.Digits("999999999999999999", 18); n != 999999999999999999 || !ok {
+		t.Errorf("Digits of the greatest integer: got %d, %v", n, ok)
+	}
+}
+
 func TestWords(t *testing.T) {
 	for line, want := range map[string][]string{"": {""}, "a": {"a"}, "a b": {"a", "b"}, " a  b ": {"", "a", "", "b", ""}, "a\tb c": {"a\tb", "c"}} {
 		w := common.WordsOf(line)

@@ -16,12 +16,19 @@ func Turned(l [4]api.Gauss, base int) [4]api.Gauss {
 	var out [4]api.Gauss
 	for k := range out {
 		for n, x := range l {
-			p := powers[base*k*n%4]
-			out[k].Re += x.Re*p.Re - x.Im*p.Im
-			out[k].Im += x.Re*p.Im + x.Im*p.Re
+			turned := Rotated(x, base*k*n)
+			out[k].Re += turned.Re
+			out[k].Im += turned.Im
 		}
 	}
 	return out
+}
+
+// Rotated returns a number times the power of i with an exponent, which may be below 0.
+func Rotated(x api.Gauss, exponent int) api.Gauss {
+	// The powers come again after four: the last two bits of an exponent tell which one it is, also below 0.
+	p := powers[exponent&3]
+	return api.Gauss{Re: x.Re*p.Re - x.Im*p.Im, Im: x.Re*p.Im + x.Im*p.Re}
 }
 
 // CheckElement returns ErrForm if a part of an element of a panel is NaN or infinite, then ErrRange if one is not a whole number of grains from -most to most, or OK.

@@ -28,6 +28,15 @@ func TestTurned(t *testing.T) {
 	}
 }
 
+func TestRotated(t *testing.T) {
+	x := api.Gauss{Re: 3, Im: -2}
+	for exponent, want := range map[int]api.Gauss{0: x, 1: {Re: 2, Im: 3}, 2: {Re: -3, Im: 2}, 3: {Re: -2, Im: -3}, 4: x, 4801: {Re: 2, Im: 3}, -1: {Re: -2, Im: -3}, -2: {Re: -3, Im: 2}, -3: {Re: 2, Im: 3}, -4: x, -4801: {Re: -2, Im: -3}} {
+		if got := common.Rotated(x, exponent); got != want {
+			t.Errorf("Rotated by %d: got %v, want %v", exponent, got, want)
+		}
+	}
+}
+
 func TestCheckElement(t *testing.T) {
 	for _, x := range []struct {
 		p complex64

@@ -32,11 +32,11 @@ func Subtract(l, m []float32) ([]float32, api.Ratio, api.Errno) {
 		return nil, api.Ratio{}, e
 	}
 	list, multiple := common.Integers(l), common.Integers(m)
-	energy := inner(multiple, multiple)
+	energy := common.Inner(multiple, multiple)
 	if energy == 0 {
 		return nil, api.Ratio{}, api.ErrSingular
 	}
-	factor := common.Lowest(api.Ratio{Num: inner(list, multiple), Den: energy})
+	factor := common.Lowest(api.Ratio{Num: common.Inner(list, multiple), Den: energy})
 	left := make([]int, len(list))
 	for n, x := range list {
 		left[n] = common.Rounded(x*factor.Den-factor.Num*multiple[n], factor.Den)
@@ -54,12 +54,12 @@ func Removed(l, left []float32) (api.Ratio, api.Errno) {
 		return api.Ratio{}, e
 	}
 	list, removed := common.Integers(l), common.Integers(l)
-	energy := inner(list, list)
+	energy := common.Inner(list, list)
 	if energy == 0 {
 		return api.Ratio{}, api.ErrZero
 	}
 	for n, x := range common.Integers(left) {
 		removed[n] -= x
 	}
-	return common.Lowest(api.Ratio{Num: inner(removed, removed), Den: energy}), api.OK
+	return common.Lowest(api.Ratio{Num: common.Inner(removed, removed), Den: energy}), api.OK
 }

@@ -63,15 +63,6 @@ func undone(taps, l []int) []int {
 	return out
 }
 
-// inner returns the inner product of two lists of the same length.
-func inner(a, b []int) int {
-	sum := 0
-	for n, x := range a {
-		sum += x * b[n]
-	}
-	return sum
-}
-
 // Apply returns a list to which taps were applied.
 func Apply(taps []int, l []float32) ([]float32, api.Errno) {
 	if e := common.First(CheckTaps(taps), checkList(l)); e != api.OK {
@@ -109,7 +100,7 @@ func Inner(a, b []float32) (int, api.Errno) {
 	if e := checkPair(a, b); e != api.OK {
 		return 0, e
 	}
-	return inner(common.Integers(a), common.Integers(b)), api.OK
+	return common.Inner(common.Integers(a), common.Integers(b)), api.OK
 }
 
 // Response returns the responses of taps.

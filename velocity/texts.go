@@ -41,24 +41,9 @@ func readPick(next func() string) (Pick, bool) {
 	var p Pick
 	ok := next() == "pick"
 	for _, f := range fields() {
-		n, isNumber := readDigits(next())
+		n, isNumber := common.Digits(next(), maxDigits)
 		*f.at(&p) = n
 		ok = ok && isNumber
 	}
 	return p, ok
-}
-
-// readDigits returns the integer that a word is, and whether it is one: of digits alone, at most so many, without leading zeros.
-func readDigits(word string) (int, bool) {
-	if len(word) > maxDigits || len(word) > 1 && word[0] == '0' {
-		return 0, false
-	}
-	n := 0
-	for _, r := range word {
-		if r < '0' || r > '9' {
-			return 0, false
-		}
-		n = 10*n + int(r-'0')
-	}
-	return n, word != ""
 }
