@@ -1,4 +1,4 @@
-// Package common has what several layers need: first errors, lists made of lists, quotients and ratios in lowest terms, intervals, samples and their integers, transforms of four, squared distances, inner products, and texts that are read line by line.
+// Package common has what several layers need: first errors, lists made of lists, quotients and ratios in lowest terms, intervals, cells of grids, samples and their integers, transforms of four, squared distances, inner products, and texts that are read line by line.
 package common
 
 import (
@@ -79,6 +79,21 @@ func CheckAscending[T any](l []T, compare func(a, b T) int, check func(T) api.Er
 		}
 	}
 	return api.OK
+}
+
+// RollCall returns a function that is told elements one by one, and returns the error that another function gives an element, ErrTwice for one with the name of an element that it was told before, or OK.
+func RollCall[T any](check func(T) api.Errno, name func(T) string) func(T) api.Errno {
+	told := map[string]bool{}
+	return func(x T) api.Errno {
+		if e := check(x); e != api.OK {
+			return e
+		}
+		if told[name(x)] {
+			return api.ErrTwice
+		}
+		told[name(x)] = true
+		return api.OK
+	}
 }
 
 // Subset returns the elements whose bits are set, in their order: the last element has the lowest bit.

@@ -185,3 +185,19 @@ func TestSquared(t *testing.T) {
 		t.Errorf("Squared of corners: got %d", x)
 	}
 }
+
+func TestRollCall(t *testing.T) {
+	check := func(n int) api.Errno { return common.CheckRange(n, 0, 99) }
+	call := common.RollCall(check, func(n int) string { return strconv.Itoa(n % 10) })
+	for _, x := range []struct {
+		n int
+		e api.Errno
+	}{{3, api.OK}, {13, api.ErrTwice}, {4, api.OK}, {105, api.ErrRange}, {5, api.OK}, {103, api.ErrRange}, {3, api.ErrTwice}, {15, api.ErrTwice}} {
+		if got := call(x.n); got != x.e {
+			t.Errorf("RollCall of %d: got %d, want %d", x.n, got, x.e)
+		}
+	}
+	if e := common.RollCall(check, strconv.Itoa)(3); e != api.OK {
+		t.Errorf("another RollCall of 3: got %d", e)
+	}
+}

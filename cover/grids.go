@@ -50,10 +50,11 @@ func (g Grid) bin(p Place) int {
 	// A coordinate of the middle need not be an integer; twice the coordinate is one.
 	column := common.Floor(p.Source.X+p.Receiver.X-2*g.Origin.X, 2*g.Width)
 	row := common.Floor(p.Source.Y+p.Receiver.Y-2*g.Origin.Y, 2*g.Height)
-	if column < 0 || column >= g.Columns || row < 0 || row >= g.Rows {
+	bin, inside := common.Cells{Columns: g.Columns, Rows: g.Rows}.At(column, row)
+	if !inside {
 		return -1
 	}
-	return row*g.Columns + column
+	return bin
 }
 
 // Bin returns the bin of a place, or -1 if it lies outside of a grid.

@@ -74,17 +74,7 @@ func CheckLines(l []Line) api.Errno {
 
 // rollCall returns a function that is told lines one by one, and returns the first error of a line, ErrTwice for one with the name of a line that it was told before, or OK.
 func rollCall() func(l Line) api.Errno {
-	told := map[string]bool{}
-	return func(l Line) api.Errno {
-		if e := CheckLine(l); e != api.OK {
-			return e
-		}
-		if told[l.Name] {
-			return api.ErrTwice
-		}
-		told[l.Name] = true
-		return api.OK
-	}
+	return common.RollCall(CheckLine, func(l Line) string { return l.Name })
 }
 
 // after returns the point a number of steps after another one.

@@ -86,17 +86,13 @@ func others(guns, some []Gun) []Gun {
 
 // rollCall returns a function that is told names one by one, and returns ErrUnknown for one that no gun of a string has, ErrTwice for one that it was told before, or OK.
 func rollCall(s String) func(name string) api.Errno {
-	told := map[string]bool{}
-	return func(name string) api.Errno {
-		switch {
-		case find(s.Guns, name) < 0:
+	known := func(name string) api.Errno {
+		if find(s.Guns, name) < 0 {
 			return api.ErrUnknown
-		case told[name]:
-			return api.ErrTwice
 		}
-		told[name] = true
 		return api.OK
 	}
+	return common.RollCall(known, func(name string) string { return name })
 }
 
 func volume(guns []Gun) int {

@@ -10,11 +10,8 @@ import (
 
 // CheckGround returns the first error of a ground, or OK.
 func CheckGround(g Ground) api.Errno {
-	if e := common.First(common.CheckRange(g.Columns, 1, MaxSide), common.CheckRange(g.Rows, 1, MaxSide)); e != api.OK {
+	if e := g.grid().Check(MaxSide, len(g.Slow)); e != api.OK {
 		return e
-	}
-	if len(g.Slow) != g.Columns*g.Rows {
-		return api.ErrShape
 	}
 	return common.FirstOf(g.Slow, checkSlow)
 }
@@ -22,6 +19,11 @@ func CheckGround(g Ground) api.Errno {
 // checkSlow returns ErrRange for a number that is no slowness, or OK.
 func checkSlow(slow int) api.Errno {
 	return common.CheckRange(slow, 1, MaxSlow)
+}
+
+// grid returns the cells of a ground.
+func (g Ground) grid() common.Cells {
+	return common.Cells{Columns: g.Columns, Rows: g.Rows}
 }
 
 // cells returns the number of the cells of a ground without an error.
@@ -57,12 +59,8 @@ var steps = [8]step{
 func (g Ground) neighbours(cell int) iter.Seq2[int, int] {
 	return func(yield func(int, int) bool) {
 		for _, s := range steps {
-			column, row := cell%g.Columns+s.columns, cell/g.Columns+s.rows
-			if column < 0 || column >= g.Columns || row < 0 || row >= g.Rows {
-				continue
-			}
-			next := row*g.Columns + column
-			if !yield(next, s.factor*(g.Slow[cell]+g.Slow[next])) {
+			next, inside := g.grid().Beside(cell, s.columns, s.rows)
+			if inside && !yield(next, s.factor*(g.Slow[cell]+g.Slow[next])) {
 				return
 			}
 		}
