@@ -1,4 +1,4 @@
-// Package common has what several layers need: first errors, lists made of lists, quotients and ratios in lowest terms, intervals, cells of grids, samples and their integers, transforms of four, squared distances, inner products, and texts that are read line by line.
+// Package common has what several layers need: first errors, lists made of lists, quotients and ratios in lowest terms, intervals, spans, cells of grids, samples and their integers, transforms of four, squared distances, inner products, and texts that are read line by line.
 package common
 
 import (
@@ -70,11 +70,16 @@ func CheckIndices(l []int, elements int) api.Errno {
 
 // CheckAscending returns, for the first element with an error, the one that a function gives it, or ErrOrder if it is not above the element before it; or OK. The first function compares two elements.
 func CheckAscending[T any](l []T, compare func(a, b T) int, check func(T) api.Errno) api.Errno {
+	return CheckSuccessive(l, func(x, before T) bool { return compare(x, before) > 0 }, check)
+}
+
+// CheckSuccessive returns, for the first element with an error, the one that a function gives it, or ErrOrder if it does not follow the element before it; or OK. The first function reports whether an element may follow another one.
+func CheckSuccessive[T any](l []T, follows func(x, before T) bool, check func(T) api.Errno) api.Errno {
 	for i, x := range l {
 		if e := check(x); e != api.OK {
 			return e
 		}
-		if i > 0 && compare(x, l[i-1]) <= 0 {
+		if i > 0 && !follows(x, l[i-1]) {
 			return api.ErrOrder
 		}
 	}

@@ -100,6 +100,21 @@ func TestCheckAscending(t *testing.T) {
 	}
 }
 
+func TestCheckSuccessive(t *testing.T) {
+	check := func(x int) api.Errno { return common.CheckRange(x, 0, 9) }
+	next := func(x, before int) bool { return x == before+1 }
+	for _, x := range []struct {
+		l []int
+		e api.Errno
+	}{
+		{nil, api.OK}, {[]int{9}, api.OK}, {[]int{3, 4, 5}, api.OK}, {[]int{10}, api.ErrRange}, {[]int{3, 4, 4}, api.ErrOrder}, {[]int{4, 3}, api.ErrOrder}, {[]int{9, 10}, api.ErrRange}, {[]int{3, 10}, api.ErrRange}, {[]int{3, 5, 10}, api.ErrOrder}, {[]int{3, 4, -1, 4}, api.ErrRange},
+	} {
+		if e := common.CheckSuccessive(x.l, next, check); e != x.e {
+			t.Errorf("CheckSuccessive of %v: got %d, want %d", x.l, e, x.e)
+		}
+	}
+}
+
 // Elements that are no numbers ascend as the function says that compares them.
 func TestCheckAscendingElements(t *testing.T) {
 	shorter := func(a, b string) int { return cmp.Compare(len(a), len(b)) }

@@ -51,11 +51,8 @@ func Reversed(l Line) (Line, api.Errno) {
 
 // Cut returns the part of a line in a span of shots.
 func Cut(l Line, s api.Span) (Line, api.Errno) {
-	if e := CheckLine(l); e != api.OK {
+	if e := common.First(CheckLine(l), common.CheckPart(s, l.Shots)); e != api.OK {
 		return Line{}, e
-	}
-	if s.From < 0 || s.From >= s.To || s.To > l.Shots {
-		return Line{}, api.ErrSpan
 	}
 	return changed(l, func(l *Line) {
 		l.Start = l.source(s.From)

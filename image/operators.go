@@ -64,11 +64,8 @@ func Image(g Ground, s Survey, data [][]int) ([]int, api.Errno) {
 
 // Tile returns the part of the image of traces in a span of rows.
 func Tile(g Ground, s Survey, data [][]int, rows api.Span) ([]int, api.Errno) {
-	if e := checkImage(g, s, data); e != api.OK {
+	if e := common.First(checkImage(g, s, data), common.CheckSpan(rows, g.Rows)); e != api.OK {
 		return nil, e
-	}
-	if rows.From < 0 || rows.From > rows.To || rows.To > g.Rows {
-		return nil, api.ErrSpan
 	}
 	return g.image(s, data, api.Span{From: rows.From * g.Columns, To: rows.To * g.Columns}), api.OK
 }

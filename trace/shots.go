@@ -146,7 +146,7 @@ func merged(a, b Shot, f func(x, y []int) []int) (Shot, api.Errno) {
 
 // Cut returns the part of a shot in a span.
 func Cut(s Shot, x api.Span) (Shot, api.Errno) {
-	if e := common.First(CheckShot(s), checkSpan(x, width(s))); e != api.OK {
+	if e := common.First(CheckShot(s), common.CheckSpan(x, width(s))); e != api.OK {
 		return Shot{}, e
 	}
 	for _, t := range s.Traces {
@@ -159,14 +159,6 @@ func Cut(s Shot, x api.Span) (Shot, api.Errno) {
 		part.Traces[i].Header[tick] += x.From
 	}
 	return part, e
-}
-
-// checkSpan returns ErrSpan if a span is not within a width, or OK.
-func checkSpan(x api.Span, width int) api.Errno {
-	if x.From < 0 || x.From > x.To || x.To > width {
-		return api.ErrSpan
-	}
-	return api.OK
 }
 
 // Join returns two shots joined.
