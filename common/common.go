@@ -1,4 +1,4 @@
-// Package common has what several layers need: first errors, lists made of lists, quotients and ratios in lowest terms, intervals, spans, cells of grids, samples and their integers, transforms of four, squared distances, inner products, and texts that are read line by line.
+// Package common has what several layers need: first errors, lists made of lists, quotients and ratios in lowest terms, intervals, spans, cells of grids, samples and their integers, transforms of four, squared distances, inner products, checksums, and texts that are read line by line.
 package common
 
 import (
@@ -138,6 +138,15 @@ func Inner(a, b []int) int {
 	sum := 0
 	for i, x := range a {
 		sum += x * b[i]
+	}
+	return sum
+}
+
+// Checksum returns 1, replaced for each element in turn by a factor times itself, plus the element, modulo a modulus.
+func Checksum[T byte | int](l []T, factor, modulus int) int {
+	sum := 1
+	for _, x := range l {
+		sum = (factor*sum + int(x)) % modulus
 	}
 	return sum
 }

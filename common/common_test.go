@@ -190,6 +190,24 @@ func TestInner(t *testing.T) {
 	}
 }
 
+func TestChecksum(t *testing.T) {
+	for _, x := range []struct {
+		l    []int
+		want int
+	}{
+		{nil, 1}, {[]int{0}, 257}, {[]int{5, 6}, 67340}, {[]int{5, 6, 7}, 529174}, {[]int{999999999, 0}, 6717058},
+	} {
+		if got := common.Checksum(x.l, 257, 16777213); got != x.want {
+			t.Errorf("Checksum of %v: got %d, want %d", x.l, got, x.want)
+		}
+	}
+	for s, want := range map[string]int{"": 1, "1": 388, "11": 131581, "\xff": 594} {
+		if got := common.Checksum([]byte(s), 339, 9999749); got != want {
+			t.Errorf("Checksum of %q: got %d, want %d", s, got, want)
+		}
+	}
+}
+
 func TestSquared(t *testing.T) {
 	a, b := api.Point{X: 1, Y: -2}, api.Point{X: -2, Y: 2}
 	if x, y := common.Squared(a, b), common.Squared(b, a); x != 25 || y != 25 {

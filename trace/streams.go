@@ -23,11 +23,7 @@ const (
 )
 
 func checksum(l []byte) uint32 {
-	x := uint64(1)
-	for _, b := range l {
-		x = (sumFactor*x + uint64(b)) % sumModulus
-	}
-	return uint32(x)
+	return uint32(common.Checksum(l, sumFactor, sumModulus))
 }
 
 // frameBytes returns the number of bytes of a frame.
